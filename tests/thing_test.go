@@ -16,32 +16,19 @@ var (
 	greatestThing = impl.Thing{Id: 999, Kind: impl.KdOther, Colour: impl.MaxColour, Size: impl.MaxSize, Worth: 10000000}
 )
 
-// A field of a thing, with its limits.
-type thingField struct {
-	name      string
-	low, high int
-	set       func(x *impl.Thing, n int)
-}
-
-var thingFields = []thingField{
-	{"Id", 1, 999, func(x *impl.Thing, n int) { x.Id = n }},
-	{"Kind", 1, 8, func(x *impl.Thing, n int) { x.Kind = n }},
-	{"Colour", 0, 7, func(x *impl.Thing, n int) { x.Colour = n }},
-	{"Size", 1, 50, func(x *impl.Thing, n int) { x.Size = n }},
-	{"Worth", 0, 10000000, func(x *impl.Thing, n int) { x.Worth = n }},
+var thingFields = []field[impl.Thing]{
+	{1, 999, func(x *impl.Thing, n int) { x.Id = n }},
+	{1, 8, func(x *impl.Thing, n int) { x.Kind = n }},
+	{0, 7, func(x *impl.Thing, n int) { x.Colour = n }},
+	{1, 50, func(x *impl.Thing, n int) { x.Size = n }},
+	{0, 10000000, func(x *impl.Thing, n int) { x.Worth = n }},
 }
 
 // invalidThings returns all that come from a valid thing by moving one field beyond its limits.
 func invalidThings() []impl.Thing {
 	l := []impl.Thing{{}}
 	for _, x := range []impl.Thing{umbrella, leastThing, greatestThing} {
-		for _, f := range thingFields {
-			for _, n := range []int{f.low - 1, f.low - 2, -f.high, f.high + 1, f.high + 2, math.MinInt, math.MaxInt} {
-				y := x
-				f.set(&y, n)
-				l = append(l, y)
-			}
-		}
+		l = append(l, beyondLimits(x, thingFields)...)
 	}
 	return l
 }
@@ -55,13 +42,9 @@ func TestThingConstants(t *testing.T) {
 
 func TestIsThingAtTheLimits(t *testing.T) {
 	for _, x := range []impl.Thing{umbrella, leastThing, greatestThing} {
-		for _, f := range thingFields {
-			for _, n := range []int{f.low, f.low + 1, (f.low + f.high) / 2, f.high - 1, f.high} {
-				y := x
-				f.set(&y, n)
-				if !impl.IsThing(y) {
-					t.Errorf("%+v is not valid with %s %d", y, f.name, n)
-				}
+		for _, y := range atLimits(x, thingFields) {
+			if !impl.IsThing(y) {
+				t.Errorf("%+v is not valid", y)
 			}
 		}
 	}
