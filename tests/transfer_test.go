@@ -40,7 +40,7 @@ func storedThings() []impl.Hand {
 }
 
 func TestIsParcel(t *testing.T) {
-	for from := -1; from <= 11; from++ {
+	for from := -50; from <= 300; from++ {
 		for to := -1; to <= 11; to++ {
 			want := from >= 1 && from <= 9 && to >= 1 && to <= 9 && from != to
 			checkValue(t, impl.IsParcel(parcel(from, to, 20, 2)), want, "IsParcel from %d to %d", from, to)
