@@ -79,7 +79,12 @@ func auditedHouses() []audited {
 	foreign := givenAway(impl.HdHouse, 5, 10)
 	foreign.Chain = sealed(append(foreign.Chain, hand(44, impl.HdHouse, 5, 10), hand(44, impl.HdGone, 0, 10))...)
 	foreign.Book = []impl.Entry{entry(0, 1, 1, 1)}
-	return append(l, audited{foreign, "early"})
+	l = append(l, audited{foreign, "early"})
+	// What was served to the owner is another thing.
+	other := claimedAway(impl.HdOwner, 12, 10, claim(3, 12, 4, 5, impl.ClServed))
+	other.Finds, other.Secrets = append(other.Finds, findOf(4, 1, 0)), append(other.Secrets, secret(4, 0, mark(1, 1)))
+	other.Chain = sealed(append(other.Chain, hand(4, impl.HdHouse, 1, 10), hand(4, impl.HdOwner, 12, 10))...)
+	return append(l, audited{other, "owner"})
 }
 
 // oddHouses are not valid in ways that the single checks can see.

@@ -189,7 +189,7 @@ func TestConsoleLinesOfAFullHouse(t *testing.T) {
 }
 
 func TestConsoleLinesOfOtherHouses(t *testing.T) {
-	checkOutputs(t, saleHouse(5001, 8), map[string]string{"sell 2 700 300": "ok", "sell 2 300 300": "ok", "sell 2 0 300": "no", "sell 2 300 10000001": "no", "sell 3 700 300": "no", "clear 2": "no", "fate 2": "sell", "due": "2"})
+	checkOutputs(t, saleHouse(5001, 8), map[string]string{"sell 2 700 300": "ok", "sell 2 300 700": "ok", "sell 2 300 300": "ok", "sell 2 0 300": "no", "sell 2 300 10000001": "no", "sell 3 700 300": "no", "clear 2": "no", "fate 2": "sell", "due": "2"})
 	checkOutputs(t, saleHouse(900, 8), map[string]string{"clear 2": "ok", "sell 2 700 300": "no", "fate 2": "finder", "serve 2": "no"})
 	checkOutputs(t, impl.House{}, map[string]string{"audit": "house", "house": "0 0 0 0 0 0", "slots": "-", "claims": "-", "due": "-", "tick 1": "no", "new 3": "ok", "balance 0": "0.00", "ask 1": "no", "match 7 bag - 1-50 - 0-0": "-"})
 	checkOutputs(t, givenAway(impl.HdBuyer, 9, 10), map[string]string{"audit": "early", "story 2": "house1+0 buyer9+10"})

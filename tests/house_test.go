@@ -214,6 +214,12 @@ func TestIsHouse(t *testing.T) {
 		unchanged(t)
 	}
 	checkValue(t, impl.IsHouse(impl.House{}), false, "IsHouse of the zero House")
+	for _, now := range []int{-1, -2, math.MinInt, 100001, math.MaxInt} {
+		checkValue(t, impl.IsHouse(impl.House{No: 1, Now: now}), false, "IsHouse of an empty one at %d", now)
+	}
+	for _, now := range []int{0, 1, 99999, 100000} {
+		checkValue(t, impl.IsHouse(impl.House{No: 1, Now: now}), true, "IsHouse of an empty one at %d", now)
+	}
 	for no := -1; no <= 11; no++ {
 		checkValue(t, impl.IsHouse(impl.House{No: no}), no >= 1 && no <= 9, "IsHouse with the number %d", no)
 	}

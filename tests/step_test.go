@@ -239,6 +239,14 @@ func TestStepServeTakesTheFee(t *testing.T) {
 			checkStep(t, feeHouse(worth, now), serving(2), want, true, "StepServe of a thing of %d at %d", worth, now)
 		}
 	}
+	// The days are those since it was found.
+	for at, fee := range map[int]int{0: 140, 3: 140, 4: 140, 5: 130, 28: 130, 29: 120, 76: 110, 77: 100, 100: 100} {
+		h := feeHouse(10000, 100)
+		h.Finds[0].At = at
+		got, ok := impl.StepServe(h, 2)
+		checkValue(t, ok, true, "StepServe of what was found at %d", at)
+		checkList(t, got.Book, []impl.Entry{entry(12, 0, fee, 100)}, "the book behind StepServe of what was found at %d", at)
+	}
 	full := feeHouse(900, 50)
 	full.Book = entriesOf(100)
 	checkNoStep(t, full, serving(2), "StepServe with a full book")
